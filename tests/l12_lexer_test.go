@@ -685,17 +685,22 @@ func lexerResults(source string) string {
 	return text
 }
 
-func TestP15LexerFunctionsRepeatTheirResults(t *testing.T) {
-	all := sources()
+// checkRepeated compares the results for every source with later ones, in another order.
+func checkRepeated(t *testing.T, sources []string, results func(source string) string) {
+	t.Helper()
 	var first []string
-	for _, source := range all {
-		first = append(first, lexerResults(source))
+	for _, source := range sources {
+		first = append(first, results(source))
 	}
-	for k := len(all) - 1; k >= 0; k-- {
+	for k := len(sources) - 1; k >= 0; k-- {
 		for range 2 {
-			if got := lexerResults(all[k]); got != first[k] {
-				t.Fatalf("the results for %q are %s, and later %s", all[k], first[k], got)
+			if got := results(sources[k]); got != first[k] {
+				t.Fatalf("the results for %q are %s, and later %s", sources[k], first[k], got)
 			}
 		}
 	}
+}
+
+func TestP15LexerFunctionsRepeatTheirResults(t *testing.T) {
+	checkRepeated(t, sources(), lexerResults)
 }
